@@ -1,0 +1,1 @@
+"""Machine tending: cycle time of one operator for several machines."""
