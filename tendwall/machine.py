@@ -20,6 +20,10 @@ class Machine:
         """The time from one service of this machine to the next that it needs by itself."""
         return self.run_time + self.service_time
 
+    def distance_to(self, other):
+        """How far the operator walks from this machine to another one."""
+        return abs(self.position - other.position)
+
 
 def check_position(position):
     """Refuse a position that is out of range."""

@@ -34,3 +34,10 @@ class TooManyMachines(Refusal):
 
     def __init__(self):
         Refusal.__init__(self, -28)
+
+
+class NoMachines(Refusal):
+    """There are no machines."""
+
+    def __init__(self):
+        Refusal.__init__(self, -6)

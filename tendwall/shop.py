@@ -53,6 +53,58 @@ def answer_cycle_time(wall, given):
     return [wall.cycle_time(tour), wall.busy_time(tour), wall.walking_time(tour)]
 
 
+def answer_wall_order(wall, given):
+    """wall_order() -> time, machines..."""
+    order = wall.wall_order()
+    return [wall.cycle_time(order)] + order
+
+
+def answer_start_times(wall, given):
+    """start_times(tour) -> count, times..."""
+    times = wall.start_times(given[0])
+    return [len(times)] + times
+
+
+def answer_idle_time(wall, given):
+    """idle_time(i) -> time"""
+    return [wall.idle_time(given[0])]
+
+
+def answer_utilization(wall, given):
+    """utilization() -> 0, fraction"""
+    return [0] + wall.utilization()
+
+
+def answer_largest_group(wall, given):
+    """largest_group(limit) -> count, machines..."""
+    members = wall.largest_group(given[0])
+    return [len(members)] + members
+
+
+def answer_best_tour_of(wall, given):
+    """best_tour_of(mask) -> time, machines..."""
+    tour = wall.best_tour_of(given[0])
+    return [wall.cycle_time(tour)] + tour
+
+
+def answer_check_schedule(wall, given):
+    """check_schedule(cycle, tour, starts) -> feasible"""
+    return [1 if wall.check_schedule(given[0], given[1], given[2]) else 0]
+
+
+def answer_min_cycle_time_if(wall, given):
+    """min_cycle_time_if(i, run_time) -> time"""
+    return [wall.min_cycle_time_if(given[0], given[1])]
+
+
+def answer_list_machines(wall, given):
+    """list_machines() -> count, machines..."""
+    answer = [len(wall.machines)]
+    for machine in wall.machines:
+        answer.extend([machine.position, machine.run_time, machine.service_time])
+    return answer
+
+
 # By a call's number: what answers it, how many whole numbers it has, and how many rows behind them.
 CALLS = (
     (answer_create, 0, 0),
@@ -64,6 +116,15 @@ CALLS = (
     (answer_min_cycle_time, 0, 0),
     (answer_best_tour, 0, 0),
     (answer_cycle_time, 0, 1),
+    (answer_wall_order, 0, 0),
+    (answer_start_times, 0, 1),
+    (answer_idle_time, 1, 0),
+    (answer_utilization, 0, 0),
+    (answer_largest_group, 1, 0),
+    (answer_best_tour_of, 1, 0),
+    (answer_check_schedule, 1, 2),
+    (answer_min_cycle_time_if, 2, 0),
+    (answer_list_machines, 0, 0),
 )
 
 

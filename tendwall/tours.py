@@ -1,4 +1,4 @@
-"""The times of tours, and the best tour of a set of machines.
+"""The times of tours, and the wall order and the best tour of a set of machines.
 
 A tour or a set is a list of indices into the list of machines.
 """
@@ -8,10 +8,15 @@ def find_walking_time(machines, tour):
     """The distance walked along the tour and back to its first machine."""
     walked = 0
     for k in range(len(tour)):
-        here = machines[tour[k]].position
-        there = machines[tour[(k + 1) % len(tour)]].position
-        walked += abs(here - there)
+        walked += find_way_on(machines, tour, k)
     return walked
+
+
+def find_way_on(machines, tour, k):
+    """The distance from the machine at place k of the tour to the next one; behind the last comes the first."""
+    here = machines[tour[k]]
+    there = machines[tour[(k + 1) % len(tour)]]
+    return here.distance_to(there)
 
 
 def find_service_sum(machines, members):
@@ -43,6 +48,12 @@ def find_min_cycle_time(machines, members):
     least_walked = 2 * (max(positions) - min(positions))
     least_busy = find_service_sum(machines, members) + least_walked
     return max(least_busy, find_longest_own_time(machines, members))
+
+
+def find_wall_order(machines, members):
+    """The set in the order along the wall; machines at one position by ascending index."""
+    placed = sorted([(machines[i].position, i) for i in members])
+    return [pair[1] for pair in placed]
 
 
 def find_best_tour(machines, members):

@@ -1,11 +1,15 @@
 """An instance: the machines along the wall, and the operations on them."""
 
-from tendwall.machine import Machine, check_position, check_run_time, check_service_time
-from tendwall.refusals import BadParameter, NoSuchMachine, TooManyMachines
+from tendwall.groups import count_masks, find_largest_group, find_members
+from tendwall.machine import Machine, check_position, check_range, check_run_time, check_service_time
+from tendwall.refusals import BadParameter, NoMachines, NoSuchMachine, TooManyMachines
+from tendwall.schedules import find_start_times, is_feasible
+from tendwall.shares import find_lowest_terms
 from tendwall.tours import (find_best_tour, find_busy_time, find_cycle_time, find_min_cycle_time,
-                            find_walking_time)
+                            find_walking_time, find_wall_order)
 
 MOST_MACHINES = 6
+MOST_SCHEDULE_TIME = 9999
 
 
 class Wall:
@@ -82,6 +86,55 @@ class Wall:
         """The walking time of a tour."""
         self.check_tour(tour)
         return find_walking_time(self.machines, tour)
+
+    def wall_order(self):
+        """The wall order of all machines."""
+        return find_wall_order(self.machines, self.all_members())
+
+    def start_times(self, tour):
+        """The start times of a tour."""
+        self.check_tour(tour)
+        return find_start_times(self.machines, tour)
+
+    def idle_time(self, i):
+        """How long machine i is idle in each cycle of the best tour."""
+        self.check_machine(i)
+        return self.min_cycle_time() - self.machines[i].own_time()
+
+    def utilization(self):
+        """The part of each cycle that the operator is at work, in lowest terms."""
+        if len(self.machines) == 0:
+            raise NoMachines()
+        return find_lowest_terms(self.busy_time(self.wall_order()), self.min_cycle_time())
+
+    def largest_group(self, limit):
+        """The largest set of machines with a minimum cycle time within the limit."""
+        if limit < 0:
+            raise BadParameter()
+        return find_largest_group(self.machines, limit)
+
+    def best_tour_of(self, mask):
+        """The best tour of the set with this bitmask."""
+        check_range(mask, 0, count_masks(self.machines) - 1)
+        return find_best_tour(self.machines, find_members(mask))
+
+    def check_schedule(self, cycle, tour, starts):
+        """Whether a schedule is feasible."""
+        self.check_tour(tour)
+        if len(starts) != len(tour):
+            raise BadParameter()
+        for time in [cycle] + starts:
+            check_range(time, 0, MOST_SCHEDULE_TIME)
+        return is_feasible(self.machines, cycle, tour, starts)
+
+    def min_cycle_time_if(self, i, run_time):
+        """The minimum cycle time of all machines, had machine i this run time."""
+        self.check_machine(i)
+        check_run_time(run_time)
+        machine = self.machines[i]
+        changed = Machine(machine.position, run_time, machine.service_time)
+        machines = self.machines[:i] + [changed] + self.machines[i + 1:]
+        return find_min_cycle_time(machines, self.all_members())
 
     def all_members(self):
         """The indices of all machines, ascending."""

@@ -42,6 +42,42 @@ def cycle_time(tour):
     return [8, len(tour)] + list(tour)
 
 
+def wall_order():
+    return [9]
+
+
+def start_times(tour):
+    return [10, len(tour)] + list(tour)
+
+
+def idle_time(i):
+    return [11, i]
+
+
+def utilization():
+    return [12]
+
+
+def largest_group(limit):
+    return [13, limit]
+
+
+def best_tour_of(mask):
+    return [14, mask]
+
+
+def check_schedule(cycle, tour, starts):
+    return [15, cycle, len(tour)] + list(tour) + [len(starts)] + list(starts)
+
+
+def min_cycle_time_if(i, run_time):
+    return [16, i, run_time]
+
+
+def list_machines():
+    return [17]
+
+
 def joined(calls):
     """The one list of whole numbers that a list of calls is handed in as."""
     return [number for call in calls for number in call]
@@ -78,6 +114,17 @@ def ask_after(machines, *calls):
     """The answers to the calls behind those that make an instance with these machines."""
     ahead = built(machines)
     return ask(*ahead, *calls)[len(ahead):]
+
+
+def listed(machines):
+    """What list_machines is answered where an instance has these machines."""
+    return [len(machines)] + [number for machine in machines for number in machine]
+
+
+def in_requests(machines, calls):
+    """The answers to as many calls as you like, each behind those that make an instance with these machines."""
+    room = 60 - len(built(machines))
+    return [answer for k in range(0, len(calls), room) for answer in ask_after(machines, *calls[k:k + room])]
 
 
 def probes():

@@ -2,8 +2,10 @@
 
 import unittest
 
-from tests.calls import (LEAST, MOST, add_machine, ask_after, best_tour, create, cycle_time, min_cycle_time, probed,
-                         probes, remove_machine, set_position, set_run_time, set_service_time)
+from tests.calls import (LEAST, MOST, add_machine, ask_after, best_tour, best_tour_of, check_schedule, create,
+                         cycle_time, idle_time, largest_group, list_machines, min_cycle_time, min_cycle_time_if,
+                         probed, probes, remove_machine, set_position, set_run_time, set_service_time, start_times,
+                         utilization, wall_order)
 
 THREE = [(0, 20, 5), (10, 30, 4), (4, 10, 6)]
 SIX = [(1, 11, 21), (2, 12, 22), (3, 13, 23), (4, 14, 24), (5, 15, 25), (6, 16, 26)]
@@ -158,25 +160,46 @@ class Changes(unittest.TestCase):
 
 
 class Unchanged(unittest.TestCase):
-    def test_queries_change_nothing(self):
-        queries = [min_cycle_time(), best_tour(), cycle_time([]), cycle_time([2]), cycle_time([2, 0, 1]),
-                   cycle_time([1, 1]), cycle_time([3]), cycle_time([-1]), best_tour(), min_cycle_time()]
-        answered = ask_after(THREE, *queries, *probes())
-        self.assertEqual(answered[len(queries):], probed(THREE))
+    # Every operation from number 6 on, with what it may be handed in and with what it refuses.
+    QUERIES = [min_cycle_time(), best_tour(), cycle_time([]), cycle_time([2]), cycle_time([2, 0, 1]),
+               cycle_time([1, 1]), cycle_time([3]), cycle_time([-1]), wall_order(), start_times([]),
+               start_times([1, 0]), start_times([1, 1]), start_times([-1]), idle_time(0), idle_time(2), idle_time(3),
+               idle_time(-1), utilization(), largest_group(-1), largest_group(0), largest_group(34),
+               largest_group(MOST), best_tour_of(0), best_tour_of(6), best_tour_of(7), best_tour_of(8),
+               best_tour_of(-1), check_schedule(35, [0, 2, 1], [0, 9, 21]), check_schedule(34, [0, 2, 1], [0, 9, 21]),
+               check_schedule(35, [0, 2, 1], [0, 9]), check_schedule(35, [0, 0], [0, 9]),
+               check_schedule(10000, [], []), min_cycle_time_if(0, 99), min_cycle_time_if(1, 0),
+               min_cycle_time_if(3, 0), min_cycle_time_if(0, 100), list_machines()]
+    WRONG = [add_machine(0, 0, 0), remove_machine(3), set_position(0, 100), set_run_time(-1, 0),
+             set_service_time(1, 0), set_run_time(2, 100), remove_machine(-1)]
 
-    def test_queries_answer_the_same_again(self):
-        queries = [min_cycle_time(), best_tour(), cycle_time([2, 0, 1]), cycle_time([5, 5])]
-        answered = ask_after(SIX, *queries, *queries, *queries)
-        self.assertEqual(answered[4:8], answered[:4])
-        self.assertEqual(answered[8:], answered[:4])
+    def test_queries_change_nothing(self):
+        for query in self.QUERIES:
+            with self.subTest(query=query):
+                self.assertEqual(ask_after(THREE, query, *probes())[1:], probed(THREE))
+
+    def test_all_queries_together_change_nothing(self):
+        answered = ask_after(THREE, *self.QUERIES, *probes())
+        self.assertEqual(answered[len(self.QUERIES):], probed(THREE))
+
+    def test_queries_of_no_machines_and_of_six_change_nothing(self):
+        for machines in ([], SIX):
+            for query in self.QUERIES:
+                with self.subTest(machines=len(machines), query=query):
+                    self.assertEqual(ask_after(machines, query, *probes())[1:], probed(machines))
+
+    def test_each_query_answers_the_same_behind_each(self):
+        alone = [ask_after(THREE, query)[0] for query in self.QUERIES]
+        for first in self.QUERIES:
+            with self.subTest(first=first):
+                self.assertEqual(ask_after(THREE, first, *self.QUERIES)[1:], alone)
 
     def test_errors_change_no_answer_of_the_queries(self):
-        queries = [min_cycle_time(), best_tour(), cycle_time([2, 0, 1])]
-        wrong = [add_machine(0, 0, 0), remove_machine(3), set_position(0, 100), set_run_time(-1, 0),
-                 set_service_time(1, 0), cycle_time([0, 0])]
-        answered = ask_after(THREE, *queries, *wrong, *queries)
-        self.assertEqual(answered[3:9], [[-22], [-2], [-22], [-2], [-22], [-22]])
-        self.assertEqual(answered[9:], answered[:3])
+        for wrong in self.WRONG:
+            with self.subTest(wrong=wrong):
+                told, *behind = ask_after(THREE, wrong, *self.QUERIES)
+                self.assertLess(told[0], 0)
+                self.assertEqual(behind, ask_after(THREE, *self.QUERIES))
 
     def test_create_behind_queries(self):
         self.assertEqual(ask_after(THREE, best_tour(), create(), best_tour()), [[35, 0, 1, 2], [0], [0]])

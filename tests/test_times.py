@@ -4,7 +4,7 @@ import unittest
 from itertools import permutations, product
 
 from tests import model
-from tests.calls import LEAST, MOST, ask_after, best_tour, cycle_time, min_cycle_time
+from tests.calls import ask_after, best_tour, cycle_time, min_cycle_time
 
 THREE = [(0, 20, 5), (10, 30, 4), (4, 10, 6)]
 SIX = [(50, 0, 1), (10, 0, 2), (40, 0, 3), (20, 0, 4), (30, 0, 5), (0, 0, 6)]
@@ -72,27 +72,6 @@ class CycleTime(unittest.TestCase):
     def test_the_run_time_alone_is_not_the_own_time(self):
         # The longest run time and the longest service time belong to two machines.
         self.check([(0, 90, 1), (0, 60, 40)], [0, 1], [100, 41, 0])
-
-    def test_an_index_twice(self):
-        for tour in ([0, 0], [0, 1, 0], [2, 1, 1], [1, 0, 2, 1], [0, 1, 2, 2]):
-            with self.subTest(tour=tour):
-                self.check(THREE, tour, [-22])
-
-    def test_an_index_of_no_machine(self):
-        for i in (LEAST, LEAST + 1, -4, -3, -2, -1, 3, 4, 6, 99, MOST - 1, MOST):
-            for tour in ([i], [i, 0, 1], [0, i, 1], [0, 1, i], [0, 1, 2, i]):
-                with self.subTest(tour=tour):
-                    self.check(THREE, tour, [-22])
-
-    def test_any_index_where_there_are_no_machines(self):
-        for i in (LEAST, -1, 0, 1, MOST):
-            with self.subTest(i=i):
-                self.check([], [i], [-22])
-
-    def test_seventy_numbers(self):
-        for tour in ([0] * 70, [0, 1, 2, 3, 4, 5] + [0] * 64, list(range(70)), [LEAST] * 35 + [MOST] * 35):
-            with self.subTest(tour=tour):
-                self.assertEqual(ask_after(SIX, cycle_time(tour), cycle_time([0])), [[-22], [1, 1, 0]])
 
     def test_every_tour_of_four_machines(self):
         machines = [(31, 60, 4), (2, 7, 9), (31, 44, 1), (77, 0, 20)]
